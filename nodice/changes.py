@@ -25,15 +25,31 @@ def changes(look, spot):
 def touched(look):
     """All spots, ascending, from which a chip changes something at some tick."""
     need_look(look, "look")
-    found = {}
+    return tuple(sorted(change_rows(look)))
+
+
+def change_rows(look):
+    """For each touched spot a list of its changes, times 2 ** last, at all ticks of its colour.
+
+    Entry k is that of the tick 2 k, or 2 k + 1 where the spot is of the look's colour at odd ticks.
+    """
+    rows = {}
     pulls = {}
-    for tick in range(look.last, 0, -1):
-        pulls = _pulls_at(look, tick, pulls)
+    for tick in range(look.last - 1, -1, -1):
+        pulls = _pulls_at(look, tick + 1, pulls)
         for at in pulls:
             for spot in (at - 1, at + 1):
-                if pulls.get(spot + 1, 0) != pulls.get(spot - 1, 0):
-                    found[spot] = True
-    return tuple(sorted(found))
+                apart = pulls.get(spot + 1, 0) - pulls.get(spot - 1, 0)
+                if apart != 0:
+                    if spot not in rows:
+                        rows[spot] = [0] * ((look.last + 1 - first_tick(look, spot)) // 2)
+                    rows[spot][tick // 2] = apart << tick
+    return rows
+
+
+def first_tick(look, spot):
+    """The first tick at which a spot is of the look's colour."""
+    return (spot + look.colour) % 2
 
 
 def _change_at(look, spot, tick):

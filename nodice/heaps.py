@@ -41,13 +41,27 @@ def joined_heaps(one, other):
     return tuple([(spot, chips[spot]) for spot in sorted(chips)])
 
 
+def are_heaps(value):
+    """Whether a value is a list of heaps; their colours are not asked."""
+    if not isinstance(value, (list, tuple)) or len(value) > MOST_HEAPS:
+        return False
+    if not all([_is_heap(pair) for pair in value]):
+        return False
+    return len({spot for spot, _ in value}) == len(value)
+
+
+def are_lefts(value):
+    """Whether a value is a list of unlike spots whose hands show to the left."""
+    if not isinstance(value, (list, tuple)) or len(value) > MOST_LEFTS:
+        return False
+    if not all([is_within(spot, -FARTHEST, FARTHEST) for spot in value]):
+        return False
+    return len(set(value)) == len(value)
+
+
 def need_heaps(value, part):
     """Raise BadHeaps(part) for what is no list of heaps; their colours are not asked."""
-    if not isinstance(value, (list, tuple)) or len(value) > MOST_HEAPS:
-        raise BadHeaps(part)
-    if not all([_is_heap(pair) for pair in value]):
-        raise BadHeaps(part)
-    if len({spot for spot, _ in value}) < len(value):
+    if not are_heaps(value):
         raise BadHeaps(part)
 
 
@@ -59,11 +73,7 @@ def need_one_colour(heaps):
 
 def need_lefts(value):
     """Raise BadNumber for what is no list of unlike spots whose hands show to the left."""
-    if not isinstance(value, (list, tuple)) or len(value) > MOST_LEFTS:
-        raise BadNumber("lefts")
-    if not all([is_within(spot, -FARTHEST, FARTHEST) for spot in value]):
-        raise BadNumber("lefts")
-    if len(set(value)) < len(value):
+    if not are_lefts(value):
         raise BadNumber("lefts")
 
 

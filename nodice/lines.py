@@ -49,7 +49,7 @@ class Line:
         heaps = list(self.heaps)
         lefts = {spot: True for spot in self.lefts}
         for _ in range(many):
-            heaps = _sent_on(heaps, lefts)
+            heaps = sent_on(heaps, lefts)
         self.tick += many
         self.heaps = tuple(heaps)
         self.lefts = tuple(sorted(lefts))
@@ -105,18 +105,10 @@ def need_line(value):
         raise BadLine("line")
 
 
-def _line_with(tick, heaps, lefts):
-    # A line behind some ticks may have more heaps, and farther off, than a start.
-    line = Line([], [])
-    line.tick = tick
-    line.heaps = tuple(heaps)
-    line.lefts = tuple(lefts)
-    return line
-
-
-def _sent_on(heaps, lefts):
-    # Heaps come ascending, and no two are neighbours: so only the chips that the heap
-    # before sent to the right can meet those that this one sends to the left.
+def sent_on(heaps, lefts):
+    """Heaps, ascending, behind one tick more; in lefts, a dict, the hands are turned."""
+    # No two heaps are neighbours: so only the chips that the heap before sent to the right
+    # can meet those that this one sends to the left.
     sent = []
     waiting_at, waiting = None, 0
     for spot, many in heaps:
@@ -138,6 +130,15 @@ def _sent_on(heaps, lefts):
     if waiting:
         sent.append((waiting_at, waiting))
     return sent
+
+
+def _line_with(tick, heaps, lefts):
+    # A line behind some ticks may have more heaps, and farther off, than a start.
+    line = Line([], [])
+    line.tick = tick
+    line.heaps = tuple(heaps)
+    line.lefts = tuple(lefts)
+    return line
 
 
 def _first_from(rows, wanted):

@@ -13,7 +13,7 @@ def look_worth(look, heaps, lefts):
     need_look(look, "look")
     need_heaps(heaps, "heaps")
     need_lefts(lefts)
-    _need_colour(look, heaps)
+    need_look_colour(look, heaps)
     line = Line(heaps, lefts)
     worth = 0
     for spot, tick, weight in look.rows:
@@ -26,7 +26,7 @@ def look_mean(look, heaps):
     """The mean of a look for heaps."""
     need_look(look, "look")
     need_heaps(heaps, "heaps")
-    _need_colour(look, heaps)
+    need_look_colour(look, heaps)
     total = 0
     for spot, tick, weight in look.rows:
         total += (weight * chips_by_rows(heaps, spot, tick)) << (look.last - tick)
@@ -39,6 +39,7 @@ def look_gap(look, heaps, lefts):
     return less((worth, 1), look_mean(look, heaps))
 
 
-def _need_colour(look, heaps):
+def need_look_colour(look, heaps):
+    """Raise Misfit unless the spots of all heaps are of the look's colour."""
     if any([spot % 2 != look.colour for spot, _ in heaps]):
         raise Misfit("colour")

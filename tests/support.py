@@ -2,7 +2,9 @@
 
 import unittest
 from fractions import Fraction
-from itertools import product
+from itertools import combinations, product
+
+from nodice.papers import Denial, Paper
 
 NO_INTEGERS = [True, False, None, "", "1", b"1", 1.0, [], (), {}, [1], (1,), {1: 2}, [[1]]]
 NO_LISTS = [True, False, None, 0, 5, 1.5, "", "ab", b"ab", {}, {0: 1}]
@@ -94,3 +96,75 @@ def variants(items, others):
             changed = list(items)
             changed[index], changed[other] = items[other], items[index]
             yield changed
+
+
+def odd_table(heaps, lefts, ticks):
+    """Chip by chip: for each tick below ticks the pairs (spot, way), ascending, of its odd heaps."""
+    table = []
+    for tick in range(ticks):
+        chips, left = played(heaps, lefts, tick)
+        table.append([(spot, -1 if spot in left else 1) for spot in sorted(chips) if chips[spot] % 2])
+    return table
+
+
+def sums_by_turns(numbers):
+    """Triples (sum, picks, sign) of all choices of numbers, with either first sign."""
+    for many in range(len(numbers) + 1):
+        for picks in combinations(range(len(numbers)), many):
+            total = sum(((-1) ** place * Fraction(*numbers[pick]) for place, pick in enumerate(picks)), Fraction(0))
+            for sign in (1, -1):
+                yield sign * total, picks, sign
+
+
+def plain(value):
+    """The value, written: tuples in the place of lists, and 1 unlike True and 1.0."""
+    if isinstance(value, (list, tuple)):
+        return "(" + "".join(plain(item) + "," for item in value) + ")"
+    return repr(value)
+
+
+ODD_PARTS = [None, True, False, 0, 1, -1, 2, 1.0, -0.0, "", "1", b"1", (), [], ((),), {}, (1,), [[1, 2]], (0, 1), (1, 2)]
+
+
+def changed(value):
+    """A value with its parts exchanged, left out, put in, doubled, turned over, of other kinds; lists for tuples."""
+    yield from ODD_PARTS
+    yield [value]
+    yield (value, value)
+    if isinstance(value, int):
+        yield from (value + 1, value - 1, -value, 2 * value, str(value))
+        if abs(value) < 2 ** 50:
+            yield float(value)
+    if isinstance(value, (list, tuple)):
+        yield from changed_rows(list(value))
+
+
+def changed_rows(items):
+    yield from (list(items), tuple(items), items[::-1], items * 2, dict(enumerate(items)), str(items))
+    for index in range(len(items) + 1):
+        for other in [*ODD_PARTS, *items[:1], *items[-1:]]:
+            yield items[:index] + [other] + items[index:]
+    for index, item in enumerate(items):
+        yield items[:index] + items[index + 1:]
+        yield items[index + 1:] + items[:index]
+        for other in changed(item):
+            yield items[:index] + [other] + items[index + 1:]
+
+
+def changed_parts(parts):
+    """The parts of a paper with one of them changed, or two exchanged."""
+    for index, part in enumerate(parts):
+        for other in changed(part):
+            yield [*parts[:index], other, *parts[index + 1:]]
+        for at in range(index):
+            rows = list(parts)
+            rows[index], rows[at] = rows[at], rows[index]
+            yield rows
+
+
+def no_papers(made, parts):
+    """Values with the parts of a right paper that are not made by calling its class, and others."""
+    word = made.__name__.lower()
+    below = type("Other", (made,), {})
+    yield from (Paper(word, *parts), Denial(word, *parts), below(*parts), tuple(parts), list(parts), made, [made(*parts)])
+    yield from (None, True, False, 0, 1, "", word, b"", {}, (), [], (word, *parts), object(), 1.5)

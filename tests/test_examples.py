@@ -1,7 +1,8 @@
 """The examples of the document, one file for each module, in its order.
 
 An example is a line behind `>>>` and, where it is an expression, the line with its value
-or `raises` and the error. Names are used as earlier examples made them last.
+or `raises` and the error. Names are used as earlier examples made them last; those of
+modules whose own examples come later are there, too.
 """
 
 import importlib
@@ -30,15 +31,25 @@ def fields_of(error):
     return {name: value for name, value in vars(error).items()}
 
 
+def own_names(file):
+    """The functions and classes of the module whose examples a file has."""
+    module = importlib.import_module("nodice." + file[3:-4])
+    found = {}
+    for name, value in vars(module).items():
+        if inspect.isfunction(value) or inspect.isclass(value):
+            if value.__module__ == module.__name__:
+                found[name] = value
+    return found
+
+
 class Examples(unittest.TestCase):
     def test_all(self):
         names = {}
-        for file in sorted(os.listdir(FOLDER)):
-            module = importlib.import_module("nodice." + file[3:-4])
-            for name, value in vars(module).items():
-                if inspect.isfunction(value) or inspect.isclass(value):
-                    if value.__module__ == module.__name__:
-                        names[name] = value
+        files = sorted(os.listdir(FOLDER))
+        for file in files:
+            names.update(own_names(file))
+        for file in files:
+            names.update(own_names(file))
             examples = examples_in(os.path.join(FOLDER, file))
             self.assertGreater(len(examples), 0, file)
             for code, answer in examples:

@@ -56,6 +56,24 @@ INTERFACE = {
         "look_worth": "look heaps lefts", "look_mean": "look heaps", "look_gap": "look heaps lefts",
     },
     "changes": {"change": "look spot tick", "changes": "look spot", "touched": "look"},
+    "turns": {"Turns": "total picks sign", "greatest_turns": "numbers", "turns_from": "numbers sign"},
+    "check_turns": {"shows_turns": "numbers value"},
+    "reaches": {"reach_of": "look", "reach_by": "look lefts"},
+    "told_gaps": {
+        "Gap": "gap chips", "odd_heaps": "heaps lefts ticks", "told_gap": "look heaps lefts",
+        "counts_of": "look heaps lefts spot",
+    },
+    "check_gaps": {"shows_gap": "look heaps lefts value"},
+    "wishes": {"start_for": "lefts wish colour low high ticks", "oddness": "heaps lefts low high ticks"},
+    "check_wishes": {"shows_start": "lefts wish colour low high ticks value"},
+    "worst": {"Worst": "heaps lefts", "worst_start": "look", "worst_by": "look lefts"},
+    "check_worst": {"shows_worst": "look value"},
+    "boards": {"Board": "homes rows", "Board.read": "text", "shut_lot": "board"},
+    "odds": {
+        "Odds": "home shares", "Steps": "means", "Shut": "lot", "odds": "board home", "mean_steps": "board",
+        "odds_from": "board place",
+    },
+    "check_odds": {"shows_odds": "board home value", "shows_steps": "board value"},
 }
 
 
@@ -233,11 +251,19 @@ class Form(unittest.TestCase):
                 self.assertIn(one, found)
                 if parameters is not None:
                     self.assertEqual(found[one], parameters.split(), one)
-        for name in ("papers.Paper", "papers.Denial", "lines.Line", "looks.Look"):
+        for name in ("papers.Paper", "papers.Denial", "lines.Line", "looks.Look", "boards.Board"):
             file, one = name.split(".")
             found = defined_in(file + ".py")
             self.assertIn(one + ".__init__", found)
             self.assertIn(one + ".__eq__", found)
-        for name in ("lines.Line", "looks.Look"):
+        for name in ("lines.Line", "looks.Look", "boards.Board"):
             file, one = name.split(".")
             self.assertIn(one + ".__str__", defined_in(file + ".py"))
+
+    def test_no_name_is_a_method_and_an_attribute(self):
+        methods, attributes = set(), set()
+        for name in files_of():
+            for node in nodes_of(name, ast.ClassDef):
+                methods |= {inner.name for inner in node.body if isinstance(inner, ast.FunctionDef)}
+            attributes |= {node.attr for node in nodes_of(name, ast.Attribute) if isinstance(node.ctx, ast.Store)}
+        self.assertEqual(methods & attributes, set())
