@@ -1,8 +1,8 @@
 """Whether a Turns is right."""
 
 from nodice.checks import is_fraction, is_integer
-from nodice.pairs import reduced
-from nodice.turns import Turns, best_sums, is_sign, need_numbers, over_one_down
+from nodice.pairs import over_one_down, reduced
+from nodice.turns import Turns, best_sums, is_sign, need_numbers
 
 
 def shows_turns(numbers, value):

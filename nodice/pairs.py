@@ -1,6 +1,6 @@
 """Fractions as pairs (up, down)."""
 
-from math import gcd
+from math import gcd, lcm
 
 from nodice.checks import is_fraction, need_integer
 from nodice.errors import BadNumber
@@ -49,6 +49,14 @@ def below(one, other):
     """Whether one fraction is less than the other."""
     _need_two(one, other)
     return one[0] * other[1] < other[0] * one[1]
+
+
+def over_one_down(numbers):
+    """Fractions as a list of integers, and the one integer by which all are to be divided."""
+    common = 1
+    for _, down in numbers:
+        common = lcm(common, down)
+    return [up * (common // down) for up, down in numbers], common
 
 
 def _need_two(one, other):

@@ -29,6 +29,12 @@ def need_word(items, at, word):
         raise BadText(0, at)
 
 
+def need_end(items, at):
+    """Raise BadText if an item stands at this index: it is one too many."""
+    if at < len(items):
+        raise BadText(0, at)
+
+
 def _is_number(item):
     digits = item.removeprefix("-")
     # Digits of other scripts are digits for isdigit, too.

@@ -1,10 +1,8 @@
 """Signs by turns: the greatest and the least sums of chosen numbers."""
 
-from math import lcm
-
 from nodice.checks import is_fraction, is_integer
 from nodice.errors import BadNumber
-from nodice.pairs import reduced
+from nodice.pairs import over_one_down, reduced
 from nodice.papers import Paper
 
 MOST_NUMBERS = 60
@@ -75,14 +73,6 @@ def need_numbers(numbers):
         raise BadNumber("numbers")
     if not all([is_fraction(number) for number in numbers]):
         raise BadNumber("numbers")
-
-
-def over_one_down(numbers):
-    """Fractions as a list of integers, and the one integer by which all are to be divided."""
-    common = 1
-    for _, down in numbers:
-        common = lcm(common, down)
-    return [up * (common // down) for up, down in numbers], common
 
 
 def _best_sums_behind(values):

@@ -25,7 +25,7 @@ METHODS = set(
 )
 SPECIAL = {"__init__", "__eq__", "__str__", "__repr__", "__len__", "__bool__"}
 BARRED_NODES = (
-    ast.Global, ast.Await, ast.AsyncFor, ast.AsyncFunctionDef, ast.AsyncWith, ast.Div, ast.Try, ast.Yield,
+    ast.Global, ast.Await, ast.AsyncFor, ast.AsyncFunctionDef, ast.AsyncWith, ast.Div, ast.Yield,
     ast.GeneratorExp, ast.MatMult, ast.Set, ast.Import, ast.NamedExpr, ast.Match, ast.With, ast.Nonlocal,
 )
 INTERFACE = {
@@ -74,6 +74,28 @@ INTERFACE = {
         "odds_from": "board place",
     },
     "check_odds": {"shows_odds": "board home value", "shows_steps": "board value"},
+    "worlds": {
+        "World": "board hands", "World.enter": "place", "World.advance": "walker", "World.led": "walker most",
+        "World.play": "place most", "World.copy": "",
+    },
+    "worths": {
+        "Bound": "home shares spans total", "worths": "board home", "told_bound": "board home", "kept": "world home",
+        "plays": "board hands place many most", "gap_after": "board hands place home many",
+    },
+    "check_worths": {"shows_bound": "board home value"},
+    "games": {"Game": "text", "Game.read": "text"},
+    "throws": {
+        "Over": "home turns", "Open": "standing turns", "outcomes": "game standing", "told": "game throws",
+    },
+    "dealt": {"dealt": "weights", "is_even": "weights row"},
+    "led": {"Led": "board standings", "led": "game", "game_odds": "game"},
+    "check_led": {"shows_led": "game value"},
+    "pictures": {
+        "picture": "line low high", "film": "heaps lefts low high ticks", "look_sheet": "look low high",
+    },
+    "desk_lines": {"read_order": "order"},
+    "desk": {"Desk": "", "Desk.told": "order", "Desk.twin": ""},
+    "scripts": {"answers": "orders"},
 }
 
 
@@ -155,6 +177,18 @@ class Form(unittest.TestCase):
             for node in nodes_of(name, ast.FunctionDef, ast.ClassDef):
                 for decorator in node.decorator_list:
                     self.assertEqual(ast.unparse(decorator), "staticmethod")
+
+    def test_handlers(self):
+        own = set(defined_in("errors.py"))
+        for name in files_of():
+            for node in nodes_of(name, ast.Try):
+                self.assertEqual((node.orelse, node.finalbody), ([], []), name)
+                caught = [handler.name for handler in node.handlers]
+                self.assertEqual(len(set(caught)), len(caught), name)
+                for handler in node.handlers:
+                    self.assertIn(handler.type.id, own, name)
+            for node in nodes_of(name, ast.Raise):
+                self.assertIn(node.exc.func.id, own, name)
 
     def test_imports(self):
         for name in files_of():
@@ -251,12 +285,14 @@ class Form(unittest.TestCase):
                 self.assertIn(one, found)
                 if parameters is not None:
                     self.assertEqual(found[one], parameters.split(), one)
-        for name in ("papers.Paper", "papers.Denial", "lines.Line", "looks.Look", "boards.Board"):
+        for name in (
+            "papers.Paper", "papers.Denial", "lines.Line", "looks.Look", "boards.Board", "worlds.World", "games.Game", "desk.Desk",
+        ):
             file, one = name.split(".")
             found = defined_in(file + ".py")
             self.assertIn(one + ".__init__", found)
             self.assertIn(one + ".__eq__", found)
-        for name in ("lines.Line", "looks.Look", "boards.Board"):
+        for name in ("lines.Line", "looks.Look", "boards.Board", "games.Game"):
             file, one = name.split(".")
             self.assertIn(one + ".__str__", defined_in(file + ".py"))
 
