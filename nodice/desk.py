@@ -32,7 +32,8 @@ def _tick(has, many):
 
 
 def _look(has, look):
-    return {**has, "look": look}, _written(reach_of(look))
+    reach = _written(reach_of(look))
+    return {**has, "look": look, "reach": reach}, reach
 
 
 def _board(has, board):
@@ -67,7 +68,7 @@ def _picture(has, low, high):
 
 
 def _reach(has):
-    return _written(reach_of(has["look"]))
+    return has["reach"]
 
 
 def _worth(has):
@@ -132,7 +133,9 @@ class Desk:
 
     def __init__(self):
         self.log = ()
-        self.has = {"heaps": (), "lefts": (), "line": Line([], []), "look": None, "world": None}
+        self.has = {
+            "heaps": (), "lefts": (), "line": Line([], []), "look": None, "reach": "", "world": None,
+        }
         self.earlier = ()
 
     def __eq__(self, other):

@@ -61,6 +61,20 @@ class Outcomes(Case):
             self.same(outcomes(game, (*standing, 0)), ((((*wanted, 0), (1, 1)),), ()))
             self.same(outcomes(game, (*standing, 1)), ((), ((8, (1, 1)),)))
 
+    def test_any_names(self):
+        # Names that are words elsewhere in the program, or begin with words of the language.
+        for one, other in (("leap", "name"), ("homes", "nots"), ("ups", "turns"), ("dic", "chances"), ("true", "none")):
+            text = (
+                f"numbers {{ {one} 0 9 1 {other} 0 9 2 }} turn {{ if {one} = {other} {{ home 0 }} else {{ if not {other} < {one}"
+                f" {{ up {one} 1 }} }} copy {other} {one} dice 2 {one} }}"
+            )
+            for standing in product(range(10), repeat=2):
+                standings, homes, _ = Model(text).outcomes(standing)
+                self.assertEqual(
+                    outcomes(Game(text), standing),
+                    (tuple([(at, pair(share)) for at, share in standings]), tuple([(at, pair(share)) for at, share in homes])),
+                )
+
     def test_shares(self):
         for first in (1, 4, 9):
             for second in (1, 5, 9):
